@@ -1,0 +1,104 @@
+"""A second way to the answers, by looking at every number in a stretch of the line.
+
+Numbers are compared by long decimal approximations here, and points are found by trying, so that nothing
+is drawn from the program that is tested.
+"""
+
+import functools
+import math
+
+SCALE = 10 ** 40
+ROOTS = {m: math.isqrt((m * m + 4) * SCALE * SCALE) for m in (1, 2, 3, 4)}
+
+
+def value(m, p):
+    """Twice a and b w, scaled; close enough to tell the sign of every number that occurs."""
+    return (2 * p[0] + m * p[1]) * SCALE + p[1] * ROOTS[m]
+
+
+def below(m, p, q):
+    return p != q and value(m, p) < value(m, q)
+
+
+def add(p, q):
+    return (p[0] + q[0], p[1] + q[1])
+
+
+def sub(p, q):
+    return (p[0] - q[0], p[1] - q[1])
+
+
+def partner(m, p):
+    return (p[0] + m * p[1], -p[1])
+
+
+def power(m, n):
+    """w by itself n times; for n below 0, 1 divided by it."""
+    found = (1, 0)
+    for _ in range(abs(n)):
+        a, b = found
+        found = (b, a + m * b) if n > 0 else (b - m * a, a)
+    return found
+
+
+def inside(m, p, x):
+    return not below(m, p, (x[0], x[1])) and below(m, p, (x[2], x[3]))
+
+
+def is_point(m, p, x):
+    return inside(m, partner(m, p), x)
+
+
+@functools.lru_cache(maxsize=None)
+def ways(m, reach):
+    """Every number above 0 and below reach, a whole number, whose partner is less than 18 from 0."""
+    found = []
+    for b in range(-20, reach + 20):
+        lowest = -value(m, (0, b)) // (2 * SCALE) - 1
+        for a in range(lowest, lowest + reach + 3):
+            way = (a, b)
+            small = below(m, (-18, 0), partner(m, way)) and below(m, partner(m, way), (18, 0))
+            if small and below(m, (0, 0), way) and below(m, way, (reach, 0)):
+                found.append(way)
+    return sorted(found, key=lambda way: value(m, way))
+
+
+def points_from(m, x, z, reach):
+    """Point z, and all points behind it by less than reach, in their order. (No window is longer than 18.)"""
+    return [z] + [add(z, way) for way in ways(m, reach) if is_point(m, add(z, way), x)]
+
+
+def first_point(m, x):
+    """The point whose partner is the window's beginning."""
+    return partner(m, (x[0], x[1]))
+
+
+def row_of_points(m, x, z, many):
+    """So many points, z first."""
+    reach = 32
+    points = points_from(m, x, z, reach)
+    while len(points) < many:
+        reach *= 2
+        points = points_from(m, x, z, reach)
+    return points[:many]
+
+
+def steps_between(points):
+    return [sub(after, before) for before, after in zip(points, points[1:])]
+
+
+def flat(numbers):
+    return [whole for number in numbers for whole in number]
+
+
+def windows(m):
+    """Windows of length 1, of lengths just below w w, and between, that lie in different places."""
+    top = (1, m)
+    lengths = [(1, 0), add((1, 0), power(m, -4)), (0, 1), (2, 0), (-1, 2), (1, 1), (3, 0), (0, m),
+               add((1, 0), power(m, -1)), sub(top, power(m, -1)), sub(top, power(m, -3)), sub(top, power(m, -7)),
+               sub(top, (1, 0)), (2 * m, 0), (m * m, 0), (m, m // 2)]
+    begins = [(0, 0), (-1, 0), (0, -1), (7, -3), (-1000, 618), (3, 11)]
+    fitting = [length for length in dict.fromkeys(lengths)
+               if not below(m, length, (1, 0)) and below(m, length, top)]
+    return [list(begins[(at + shift) % 6] + add(begins[(at + shift) % 6], length))
+            for at, length in enumerate(fitting) for shift in (0, 3)]

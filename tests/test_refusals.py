@@ -1,0 +1,196 @@
+"""The refusals of place and steps, alone and several at once (point 1), and the last paragraph of the interface."""
+
+import contextlib
+import copy
+import io
+import itertools
+import unittest
+
+from tests import oracle
+from windowsteps.patterns import place, steps
+
+WRONG_M = [0, 5, 6, 4294967295]
+WRONG_X = [
+    [], [0], [0, 0], [0, 0, 1], [0, 0, 1, 0, 0], [0, 0, 1, 0, 0, 0, 1, 0], [0] * 40,
+    [1000001, 0, 1000002, 0], [1000000, 0, 1000001, 0], [-1000001, 0, -1000000, 0], [0, 1000001, 1, 1000001],
+    [0, -1000001, 1, -1000001], [0, 1000000, 0, 1000001], [2147483646, 0, 2147483647, 0],
+    [-2147483647, 0, -2147483646, 0],
+    [0, 0, 0, 0], [1, 0, 0, 0], [0, 1, 0, 0], [5, 5, 5, 5], [0, 0, 1000000, 0], [0, 0, -1000000, 0],
+    [0, 0, 1000000, 1000000],
+]
+WRONG_L = [
+    [1], [1, 0, 0], [1] * 25, [1] * 27, [0] * 39,
+    [1000001, 0], [0, 1000001], [-1000001, 0], [0, -1000001], [1, 0, 2147483647, 0], [1, 0, 0, -2147483647],
+    [1, 1] * 12 + [1000001, 1],
+]
+WRONG_Z = [
+    [], [0], [0, 0, 0], [0, 0, 0, 0], [0] * 40,
+    [1000001, 0], [-1000001, 0], [0, 1000001], [0, -1000001], [2147483647, 0], [0, -2147483647],
+]
+LONG_L = [[1, 0] * 13, [0, 1, 1, 0] * 10, [0] * 26, [1000000, -1000000] * 20]
+LARGE_K = [13, 14, 40, 4294967295]
+# For m = 1 the window from 0 to 1 has the steps w, never twice in a row, and 1 and w, never three times in a row.
+NO_PATTERN = [[0, 0], [1, 0], [0, -1], [1, 2], [1000000, 1000000], [0, 1] * 2, [0, 1] * 12, [1, 1] * 3, [1, 1] * 12]
+NO_POINT = [[1, 0], [-1, 0], [0, 1], [0, -2], [1000000, 1000000], [-1000000, 0]]
+
+GOOD_X = [0, 0, 1, 0]
+GOOD_L = [0, 1]
+GOOD_Z = [0, 0]
+
+
+def too_long_windows(m):
+    hair = oracle.power(m, -5)
+    top = (1, m)
+    return [[0, 0] + list(length) for length in (top, oracle.add(top, hair), (1, m + 1), (20, 0))]
+
+
+def too_short_windows(m):
+    return [[0, 0] + list(length) for length in (oracle.sub((1, 0), oracle.power(m, -6)), oracle.power(m, -9), (-m, 1))]
+
+
+class PlaceAlone(unittest.TestCase):
+    def test_m(self):
+        for m in WRONG_M:
+            self.assertEqual(place(m, GOOD_X, GOOD_L), [-22], m)
+            self.assertEqual(place(m, GOOD_X, []), [-22], m)
+
+    def test_x(self):
+        for m in (1, 2, 3, 4):
+            for x in WRONG_X + too_long_windows(m) + too_short_windows(m):
+                self.assertEqual(place(m, x, GOOD_L), [-22], (m, x))
+                self.assertEqual(place(m, x, []), [-22], (m, x))
+
+    def test_a_window_depends_on_m(self):
+        self.assertEqual(place(1, [0, 0, 3, 0], []), [-22])
+        self.assertEqual(place(2, [0, 0, 3, 0], []), [0, 0, 0, 3, 0])
+        self.assertEqual(place(3, [0, 0, 17, 0], []), [-22])
+        self.assertEqual(place(4, [0, 0, 17, 0], []), [0, 0, 0, 17, 0])
+
+    def test_l(self):
+        for l in WRONG_L:
+            self.assertEqual(place(1, GOOD_X, l), [-22], l)
+
+    def test_l_of_more_than_twelve_steps(self):
+        for l in LONG_L:
+            self.assertEqual(place(1, GOOD_X, l), [-28], l)
+
+    def test_a_pattern_of_thirteen_steps_that_points_have(self):
+        first = steps(1, 12, GOOD_X, GOOD_Z)[1:]
+        self.assertEqual(place(1, GOOD_X, first)[0], 0)
+        self.assertEqual(place(1, GOOD_X, first + [0, 1]), [-28])
+        self.assertEqual(place(1, GOOD_X, first + [1, 1]), [-28])
+
+    def test_a_pattern_that_no_point_has(self):
+        for l in NO_PATTERN:
+            self.assertEqual(place(1, GOOD_X, l), [-33], l)
+
+
+class StepsAlone(unittest.TestCase):
+    def test_m(self):
+        for m in WRONG_M:
+            self.assertEqual(steps(m, 1, GOOD_X, GOOD_Z), [-22], m)
+            self.assertEqual(steps(m, 0, GOOD_X, GOOD_Z), [-22], m)
+
+    def test_x(self):
+        for m in (1, 2, 3, 4):
+            for x in WRONG_X + too_long_windows(m) + too_short_windows(m):
+                self.assertEqual(steps(m, 1, x, GOOD_Z), [-22], (m, x))
+                self.assertEqual(steps(m, 0, x, GOOD_Z), [-22], (m, x))
+
+    def test_z(self):
+        for z in WRONG_Z:
+            self.assertEqual(steps(1, 1, GOOD_X, z), [-22], z)
+            self.assertEqual(steps(1, 0, GOOD_X, z), [-22], z)
+
+    def test_k(self):
+        for k in LARGE_K:
+            self.assertEqual(steps(1, k, GOOD_X, GOOD_Z), [-28], k)
+        self.assertEqual(len(steps(1, 12, GOOD_X, GOOD_Z)), 25)
+
+    def test_z_that_is_no_point(self):
+        for z in NO_POINT:
+            self.assertEqual(steps(1, 1, GOOD_X, z), [-2], z)
+            self.assertEqual(steps(1, 0, GOOD_X, z), [-2], z)
+
+
+class SeveralAtOnce(unittest.TestCase):
+    """Every choice of a right or a wrong thing in each place; the first refusal that is due is answered."""
+
+    def test_place(self):
+        ms = [(0, 1)] + [(-22, m) for m in WRONG_M]
+        xs = [(0, GOOD_X)] + [(-22, x) for x in WRONG_X]
+        ls = [(0, GOOD_L)] + [(-22, l) for l in WRONG_L] + [(-28, l) for l in LONG_L] + [(-33, l) for l in NO_PATTERN]
+        for (r1, m), (r2, x), (r3, l) in itertools.product(ms, xs, ls):
+            due = first_due([r1, r2, r3])
+            self.assertEqual(place(m, x, l)[0], due, (m, x, l))
+
+    def test_steps(self):
+        ms = [(0, 1)] + [(-22, m) for m in WRONG_M]
+        ks = [(0, 0), (0, 12)] + [(-28, k) for k in LARGE_K]
+        xs = [(0, GOOD_X)] + [(-22, x) for x in WRONG_X]
+        zs = [(0, GOOD_Z)] + [(-22, z) for z in WRONG_Z] + [(-2, z) for z in NO_POINT]
+        for (r1, m), (r2, k), (r3, x), (r4, z) in itertools.product(ms, ks, xs, zs):
+            due = first_due([r1, r2, r3, r4])
+            answer = steps(m, k, x, z)
+            self.assertEqual(answer if due else answer[0], [due] if due else k, (m, k, x, z))
+
+
+def first_due(refusals):
+    for refusal in (-22, -28, -33, -2):
+        if refusal in refusals:
+            return refusal
+    return 0
+
+
+class WhatIsHandedIn(unittest.TestCase):
+    CALLS = [
+        (place, (1, [0, 0, 2, 0], [1, 0, 0, 1])), (place, (3, [7, -3, 9, -3], [])), (place, (1, [0, 0, 1, 0], [1, 0])),
+        (place, (2, [0, 0, 1, 0], [1])), (place, (2, [0, 0, 1, 0], [1, 0] * 13)),
+        (steps, (1, 12, [0, 0, 2, 0], [0, 0])), (steps, (4, 12, [0, 0, 17, 0], [0, 0])), (steps, (2, 0, [0, 0, 1, 0], [0, 0])),
+        (steps, (2, 13, [0, 0, 1, 0], [0, 0])), (steps, (2, 3, [0, 0, 1, 0], [1, 0])), (steps, (9, 3, [0, 0, 1, 0], [1, 0])),
+    ]
+
+    def test_lists_are_as_they_were(self):
+        for call, handed in self.CALLS:
+            kept = copy.deepcopy(handed)
+            call(*handed)
+            self.assertEqual(handed, kept)
+
+    def test_lists_are_not_changed_for_a_while_either(self):
+        class Still(list):
+            def refuse(self, *others):
+                raise AssertionError("a list that was handed in is changed")
+            append = extend = insert = pop = remove = clear = sort = reverse = refuse
+            __setitem__ = __delitem__ = __iadd__ = __imul__ = refuse
+        for call, handed in self.CALLS:
+            still = [Still(value) if isinstance(value, list) else value for value in handed]
+            self.assertEqual(call(*still), call(*handed))
+
+    def test_a_second_call_answers_the_same_and_is_not_bound_to_the_first(self):
+        before = [copy.deepcopy(call(*handed)) for call, handed in self.CALLS]
+        for (call, handed), wanted in reversed(list(zip(self.CALLS, before))):
+            answer = call(*handed)
+            self.assertEqual(answer, wanted)
+            answer.append(99)
+            self.assertEqual(call(*handed), wanted)
+
+    def test_answers_are_lists_of_whole_numbers(self):
+        for call, handed in self.CALLS:
+            answer = call(*handed)
+            self.assertIs(type(answer), list)
+            self.assertEqual({type(number) for number in answer}, {int})
+
+    def test_nothing_is_printed(self):
+        out, err = io.StringIO(), io.StringIO()
+        with contextlib.redirect_stdout(out), contextlib.redirect_stderr(err):
+            for call, handed in self.CALLS:
+                call(*handed)
+        self.assertEqual((out.getvalue(), err.getvalue()), ("", ""))
+
+    def test_arguments_have_the_names_that_the_document_tells(self):
+        self.assertEqual(place(m=1, x=[0, 0, 1, 0], l=[0, 1]), place(1, [0, 0, 1, 0], [0, 1]))
+        self.assertEqual(steps(m=1, k=2, x=[0, 0, 1, 0], z=[0, 0]), steps(1, 2, [0, 0, 1, 0], [0, 0]))
+
+
+if __name__ == "__main__":
+    unittest.main()
