@@ -122,7 +122,8 @@ class SeveralAtOnce(unittest.TestCase):
         ls = [(0, GOOD_L)] + [(-22, l) for l in WRONG_L] + [(-28, l) for l in LONG_L] + [(-33, l) for l in NO_PATTERN]
         for (r1, m), (r2, x), (r3, l) in itertools.product(ms, xs, ls):
             due = first_due([r1, r2, r3])
-            self.assertEqual(place(m, x, l)[0], due, (m, x, l))
+            answer = place(m, x, l)
+            self.assertEqual(answer if due else answer[0], [due] if due else 0, (m, x, l))
 
     def test_steps(self):
         ms = [(0, 1)] + [(-22, m) for m in WRONG_M]
