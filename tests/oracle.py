@@ -5,6 +5,7 @@ is drawn from the program that is tested.
 """
 
 import functools
+import itertools
 import math
 
 SCALE = 10 ** 40
@@ -87,8 +88,39 @@ def steps_between(points):
     return [sub(after, before) for before, after in zip(points, points[1:])]
 
 
+def starts_of_rows(m, x, ways_there):
+    """The window's beginning, and every number in it from which on another of these ways leads to a point or out."""
+    ends = [(x[0], x[1]), (x[2], x[3])]
+    starts = [ends[0]] + [sub(end, partner(m, way)) for way in ways_there for end in ends]
+    return sorted((p for p in set(starts) if inside(m, p, x)), key=lambda p: value(m, p))
+
+
+def rows_of_window(m, x, k):
+    """All rows of k steps that points have, in the order of their places.
+
+    Between two starts next to one another all partners are led into the window by the same ways, so one point
+    for each start is enough. No step is longer than 1 and w, for so it is in a window of length 1.
+    """
+    low, high = value(m, x[:2]), value(m, x[2:])
+    led = [(way, value(m, partner(m, way))) for way in ways(m, k * (m + 2) + 1)]
+    led = [(way, far) for way, far in led if abs(far) < high - low]
+    rows = []
+    for start in starts_of_rows(m, x, [way for way, far in led]):
+        at = value(m, start)
+        points = itertools.islice((way for way, far in led if low <= at + far < high), k)
+        row = steps_between([(0, 0)] + list(points))
+        if row not in rows[-1:]:
+            rows.append(row)
+    return rows
+
+
 def flat(numbers):
     return [whole for number in numbers for whole in number]
+
+
+def is_length(m, length):
+    """Whether a window may be as long."""
+    return not below(m, length, (1, 0)) and below(m, length, (1, m))
 
 
 def windows(m):
@@ -98,7 +130,24 @@ def windows(m):
                add((1, 0), power(m, -1)), sub(top, power(m, -1)), sub(top, power(m, -3)), sub(top, power(m, -7)),
                sub(top, (1, 0)), (2 * m, 0), (m * m, 0), (m, m // 2)]
     begins = [(0, 0), (-1, 0), (0, -1), (7, -3), (-1000, 618), (3, 11)]
-    fitting = [length for length in dict.fromkeys(lengths)
-               if not below(m, length, (1, 0)) and below(m, length, top)]
+    fitting = [length for length in dict.fromkeys(lengths) if is_length(m, length)]
     return [list(begins[(at + shift) % 6] + add(begins[(at + shift) % 6], length))
             for at, length in enumerate(fitting) for shift in (0, 3)]
+
+
+def far_windows(m):
+    """Windows told by numbers as large as may be handed in, or nearly so."""
+    # Of length 1 and of length w, as far out as may be.
+    found = [[999999, 1000000, 1000000, 1000000], [999999, -1000000, 1000000, -1000000],
+             [-1000000, 1000000, -999999, 1000000], [-1000000, -1000000, -999999, -1000000],
+             [1000000, 999999, 1000000, 1000000], [1000000, -1000000, 1000000, -999999],
+             [-1000000, 999999, -1000000, 1000000], [-1000000, -1000000, -1000000, -999999]]
+    # From one bound to the other, with every count of w that makes a window of it.
+    for a in (1000000, -1000000):
+        nearest = -2 * a * 2 * SCALE // value(m, (0, 1))
+        for b in range(nearest - m - 3, nearest + m + 4):
+            if is_length(m, (2 * a, b)):
+                found.append([-a, -(b // 2), a, b - b // 2])
+    # By a hair longer than 1, and by a hair shorter than w w.
+    hair = power(m, -max(n for n in range(40) if max(map(abs, power(m, -n))) < 999990))
+    return found + [[0, 0] + list(length) for length in (add((1, 0), hair), sub((1, m), hair))]

@@ -1,4 +1,4 @@
-"""The refusals of place and steps, alone and several at once (point 1), and the last paragraph of the interface."""
+"""The refusals of each call, alone and several at once (point 1), and the last paragraph of the interface."""
 
 import contextlib
 import copy
@@ -7,7 +7,7 @@ import itertools
 import unittest
 
 from tests import oracle
-from windowsteps.patterns import place, steps
+from windowsteps.patterns import many, patterns, place, steps
 
 WRONG_M = [0, 5, 6, 4294967295]
 WRONG_X = [
@@ -29,6 +29,8 @@ WRONG_Z = [
 ]
 LONG_L = [[1, 0] * 13, [0, 1, 1, 0] * 10, [0] * 26, [1000000, -1000000] * 20]
 LARGE_K = [13, 14, 40, 4294967295]
+# Too many steps to be listed, not too many to be counted.
+MIDDLE_K = [7, 8, 12]
 # For m = 1 the window from 0 to 1 has the steps w, never twice in a row, and 1 and w, never three times in a row.
 NO_PATTERN = [[0, 0], [1, 0], [0, -1], [1, 2], [1000000, 1000000], [0, 1] * 2, [0, 1] * 12, [1, 1] * 3, [1, 1] * 12]
 NO_POINT = [[1, 0], [-1, 0], [0, 1], [0, -2], [1000000, 1000000], [-1000000, 0]]
@@ -113,6 +115,40 @@ class StepsAlone(unittest.TestCase):
             self.assertEqual(steps(1, 0, GOOD_X, z), [-2], z)
 
 
+class PatternsAndManyAlone(unittest.TestCase):
+    def test_m(self):
+        for call, m, k in itertools.product((patterns, many), WRONG_M, (0, 1, 6)):
+            for x in (GOOD_X, [0, 0, 2, 0], [-1, 0, 0, 0]):
+                self.assertEqual(call(m, k, x), [-22], (call, m, k, x))
+
+    def test_x(self):
+        for call, m, k in itertools.product((patterns, many), (1, 2, 3, 4), (0, 1, 6)):
+            for x in WRONG_X + too_long_windows(m) + too_short_windows(m):
+                self.assertEqual(call(m, k, x), [-22], (call, m, k, x))
+
+    def test_a_window_depends_on_m(self):
+        for call in (patterns, many):
+            self.assertEqual([call(m, 0, [0, 0, 3, 0]) for m in (1, 2, 3, 4)], [[-22], [1], [1], [1]])
+            self.assertEqual([call(m, 0, [0, 0, 17, 0]) for m in (1, 2, 3, 4)], [[-22], [-22], [-22], [1]])
+
+    def test_a_window_by_a_hair(self):
+        for call, m in itertools.product((patterns, many), (1, 2, 3, 4)):
+            hair = oracle.power(m, -9)
+            for length, held in (((1, 0), True), (oracle.sub((1, 0), hair), False), ((1, m), False),
+                                 (oracle.sub((1, m), hair), True)):
+                self.assertEqual(call(m, 0, [0, 0] + list(length)), [1] if held else [-22], (call, m, length))
+
+    def test_k(self):
+        for m in (1, 2, 3, 4):
+            for k in LARGE_K:
+                self.assertEqual(patterns(m, k, GOOD_X), [-28], (m, k))
+                self.assertEqual(many(m, k, GOOD_X), [-28], (m, k))
+            for k in MIDDLE_K:
+                self.assertEqual(patterns(m, k, GOOD_X), [-28], (m, k))
+                self.assertEqual(many(m, k, GOOD_X), [k + 1], (m, k))
+            self.assertEqual(patterns(m, 6, GOOD_X)[0], 7)
+
+
 class SeveralAtOnce(unittest.TestCase):
     """Every choice of a right or a wrong thing in each place; the first refusal that is due is answered."""
 
@@ -135,6 +171,21 @@ class SeveralAtOnce(unittest.TestCase):
             answer = steps(m, k, x, z)
             self.assertEqual(answer if due else answer[0], [due] if due else k, (m, k, x, z))
 
+    def test_patterns_and_many(self):
+        # GOOD_X has two steps, so k and 1 patterns, whatever m is.
+        for right_m in (1, 2, 3, 4):
+            ms = [(0, right_m)] + [(-22, m) for m in WRONG_M]
+            wrong_x = WRONG_X + too_long_windows(right_m) + too_short_windows(right_m)
+            xs = [(0, GOOD_X)] + [(-22, x) for x in wrong_x]
+            small = [(0, k) for k in (0, 1, 6)]
+            large = [(-28, k) for k in LARGE_K]
+            for call, refusal in ((patterns, -28), (many, 0)):
+                ks = small + [(refusal, k) for k in MIDDLE_K] + large
+                for (r1, m), (r2, k), (r3, x) in itertools.product(ms, ks, xs):
+                    due = first_due([r1, r2, r3])
+                    answer = call(m, k, x)
+                    self.assertEqual(answer if due else answer[0], [due] if due else k + 1, (call, m, k, x))
+
 
 def first_due(refusals):
     for refusal in (-22, -28, -33, -2):
@@ -149,6 +200,10 @@ class WhatIsHandedIn(unittest.TestCase):
         (place, (2, [0, 0, 1, 0], [1])), (place, (2, [0, 0, 1, 0], [1, 0] * 13)),
         (steps, (1, 12, [0, 0, 2, 0], [0, 0])), (steps, (4, 12, [0, 0, 17, 0], [0, 0])), (steps, (2, 0, [0, 0, 1, 0], [0, 0])),
         (steps, (2, 13, [0, 0, 1, 0], [0, 0])), (steps, (2, 3, [0, 0, 1, 0], [1, 0])), (steps, (9, 3, [0, 0, 1, 0], [1, 0])),
+        (patterns, (1, 6, [0, 0, 2, 0])), (patterns, (4, 6, [0, 0, 17, 0])), (patterns, (2, 0, [0, 0, 1, 0])),
+        (patterns, (2, 7, [0, 0, 1, 0])), (patterns, (2, 3, [0, 0, 1])), (patterns, (0, 3, [0, 0, 1, 0])),
+        (many, (1, 12, [0, 0, 2, 0])), (many, (4, 12, [0, 0, 17, 0])), (many, (2, 0, [0, 0, 1, 0])),
+        (many, (2, 13, [0, 0, 1, 0])), (many, (2, 3, [0, 0, 1])), (many, (0, 3, [0, 0, 1, 0])),
     ]
 
     def test_lists_are_as_they_were(self):
@@ -191,6 +246,8 @@ class WhatIsHandedIn(unittest.TestCase):
     def test_arguments_have_the_names_that_the_document_tells(self):
         self.assertEqual(place(m=1, x=[0, 0, 1, 0], l=[0, 1]), place(1, [0, 0, 1, 0], [0, 1]))
         self.assertEqual(steps(m=1, k=2, x=[0, 0, 1, 0], z=[0, 0]), steps(1, 2, [0, 0, 1, 0], [0, 0]))
+        self.assertEqual(patterns(m=1, k=2, x=[0, 0, 1, 0]), patterns(1, 2, [0, 0, 1, 0]))
+        self.assertEqual(many(m=1, k=2, x=[0, 0, 1, 0]), many(1, 2, [0, 0, 1, 0]))
 
 
 if __name__ == "__main__":

@@ -6,6 +6,7 @@ Windows and places are spans, and partners lie in them.
 
 LARGEST = 1000000
 MOST_STEPS = 12
+MOST_STEPS_LISTED = 6
 
 NOT_AS_TOLD = -22
 TOO_MANY_STEPS = -28
@@ -47,6 +48,14 @@ def shared_span(m, one, other):
     begin = other[0] if is_below(m, one[0], other[0]) else one[0]
     end = other[1] if is_below(m, other[1], one[1]) else one[1]
     return (begin, end)
+
+
+def is_empty(m, span):
+    return not is_below(m, span[0], span[1])
+
+
+def moved_back(span, way):
+    return (minus(span[0], way), minus(span[1], way))
 
 
 def span_of(x):
@@ -130,12 +139,34 @@ def place_of_pattern(m, window, pattern):
         span = place_of_step(places, step)
         if span is None:
             return None
-        moved_back = (minus(span[0], walked), minus(span[1], walked))
-        place_so_far = shared_span(m, place_so_far, moved_back)
+        place_so_far = shared_span(m, place_so_far, moved_back(span, walked))
         walked = plus(walked, partner(m, step))
-    if not is_below(m, place_so_far[0], place_so_far[1]):
+    if is_empty(m, place_so_far):
         return None
     return place_so_far
+
+
+def longer_by_a_step(m, places, row, walked, place_so_far):
+    """The pattern row with each step that may follow it: its steps, how far partners are led, and its place."""
+    found = []
+    for step, span in places:
+        narrowed = shared_span(m, place_so_far, moved_back(span, walked))
+        if not is_empty(m, narrowed):
+            found.append((row + [step], plus(walked, partner(m, step)), narrowed))
+    return found
+
+
+def rows_of_steps(m, window, k):
+    """The patterns of k steps, each a list of steps, in the order of their places."""
+    places = step_places(m, window)
+    # A place is cut where the places of the next step meet, and these stand in order: so its parts do too.
+    found = [([], (0, 0), window)]
+    for count in range(k):
+        longer = []
+        for row, walked, place_so_far in found:
+            longer.extend(longer_by_a_step(m, places, row, walked, place_so_far))
+        found = longer
+    return [entry[0] for entry in found]
 
 
 def place(m, x, l):
@@ -168,3 +199,26 @@ def steps(m, k, x, z):
         answer.extend(step)
         at = plus(at, partner(m, step))
     return answer
+
+
+def patterns(m, k, x):
+    """How many patterns of k steps there are, then the steps of each; or a refusal."""
+    if not is_window(m, x):
+        return [NOT_AS_TOLD]
+    if k > MOST_STEPS_LISTED:
+        return [TOO_MANY_STEPS]
+    rows = rows_of_steps(m, span_of(x), k)
+    answer = [len(rows)]
+    for row in rows:
+        for step in row:
+            answer.extend(step)
+    return answer
+
+
+def many(m, k, x):
+    """How many patterns of k steps there are; or a refusal."""
+    if not is_window(m, x):
+        return [NOT_AS_TOLD]
+    if k > MOST_STEPS:
+        return [TOO_MANY_STEPS]
+    return [len(rows_of_steps(m, span_of(x), k))]
