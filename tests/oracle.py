@@ -33,6 +33,10 @@ def partner(m, p):
     return (p[0] + m * p[1], -p[1])
 
 
+def mul(m, p, q):
+    return (p[0] * q[0] + p[1] * q[1], p[0] * q[1] + p[1] * q[0] + m * p[1] * q[1])
+
+
 def power(m, n):
     """w by itself n times; for n below 0, 1 divided by it."""
     found = (1, 0)
@@ -101,6 +105,11 @@ def rows_of_window(m, x, k):
     Between two starts next to one another all partners are led into the window by the same ways, so one point
     for each start is enough. No step is longer than 1 and w, for so it is in a window of length 1.
     """
+    return found_rows(m, tuple(x), k)
+
+
+@functools.lru_cache(maxsize=None)
+def found_rows(m, x, k):
     low, high = value(m, x[:2]), value(m, x[2:])
     led = [(way, value(m, partner(m, way))) for way in ways(m, k * (m + 2) + 1)]
     led = [(way, far) for way, far in led if abs(far) < high - low]
@@ -114,8 +123,67 @@ def rows_of_window(m, x, k):
     return rows
 
 
+def ways_aside(m, length, most):
+    """Every number above 0 whose partner is less than length from 0, with most times w at most; rising.
+
+    A number is as many times w less w's partner from its own partner as it has w. So all below the second
+    number that is given back are among them.
+    """
+    top, found = value(m, length), []
+    one, aside = 2 * SCALE, value(m, partner(m, (0, 1)))
+    for b in range(-20, most + 1):
+        a = (-top - b * aside) // one + 1
+        while one * a + b * aside < top:
+            if value(m, (a, b)) > 0:
+                found.append((a, b))
+            a += 1
+    return sorted(found, key=lambda way: value(m, way)), 2 * (most + 1) * ROOTS[m] - top
+
+
+@functools.lru_cache(maxsize=None)
+def nearest_ways(m, length):
+    """Each way that leads from some number of a span as long to the next one of it, as points lie; rising.
+
+    The ways are tried one by one, each from all numbers of the span from which none before has led into it.
+    """
+    top, most = value(m, length), 64
+    while True:
+        tried, complete = ways_aside(m, length, most)
+        left, found = [(0, top)], []
+        for way in tried:
+            if value(m, way) >= complete or not left:
+                break
+            far = value(m, partner(m, way))
+            rest = [part for low, high in left for part in without((low, high), (-far, top - far))]
+            if rest != left:
+                found.append(way)
+            left = rest
+        if not left:
+            return found
+        most *= 2
+
+
+def without(part, taken):
+    """The stretches of part that are left when taken is taken from it."""
+    left = [(part[0], min(part[1], taken[0])), (max(part[0], taken[1]), part[1])]
+    return [stretch for stretch in left if stretch[0] < stretch[1]]
+
+
 def flat(numbers):
     return [whole for number in numbers for whole in number]
+
+
+def pairs(values):
+    """The numbers that these whole numbers tell."""
+    return list(zip(values[::2], values[1::2]))
+
+
+def length(span):
+    return sub(span[2:], span[:2])
+
+
+def moved(x, way):
+    return list(add((x[0], x[1]), way) + add((x[2], x[3]), way))
 
 
 def is_length(m, length):
@@ -135,6 +203,12 @@ def windows(m):
             for at, length in enumerate(fitting) for shift in (0, 3)]
 
 
+def windows_of_all_lengths(m):
+    """A window of every length whose two whole numbers are small."""
+    lengths = [(a, b) for a in range(-30, 31) for b in range(-30, 31) if is_length(m, (a, b))]
+    return [[-3, 2, a - 3, b + 2] for a, b in lengths]
+
+
 def far_windows(m):
     """Windows told by numbers as large as may be handed in, or nearly so."""
     # Of length 1 and of length w, as far out as may be.
@@ -151,3 +225,31 @@ def far_windows(m):
     # By a hair longer than 1, and by a hair shorter than w w.
     hair = power(m, -max(n for n in range(40) if max(map(abs, power(m, -n))) < 999990))
     return found + [[0, 0] + list(length) for length in (add((1, 0), hair), sub((1, m), hair))]
+
+
+def tight_windows(m):
+    """Windows told by large numbers in which some step's place is as short as may be, or nearly so.
+
+    They are told from one bound to the other, so that their length may be told by numbers beyond the bound.
+    """
+    found = []
+    # The second hair isn't as short, but has three steps where the first has two.
+    for times in (1, 2):
+        hairs = [mul(m, power(m, -n), (times, 0)) for n in range(50)]
+        hair = [p for p in hairs if max(map(abs, p)) < 1999900][-1]
+        for length in (add((1, 0), hair), sub((1, m), hair)):
+            begin = (-(length[0] // 2), -(length[1] // 2))
+            found.append(list(begin + add(begin, length)))
+    return found
+
+
+MOVES = ((1, 0), (-5, 3), (900, -555), (0, 100000), (-700000, 2))
+
+
+def all_windows():
+    return [(m, x) for m in (1, 2, 3, 4) for x in windows(m) + far_windows(m)]
+
+
+def most_windows():
+    """Those too that are slow to try."""
+    return all_windows() + [(m, x) for m in (1, 2, 3, 4) for x in tight_windows(m)]

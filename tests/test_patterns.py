@@ -6,22 +6,11 @@ from tests import oracle
 from windowsteps.patterns import many, patterns, place, steps
 
 MS = (1, 2, 3, 4)
-MOVES = ((1, 0), (-5, 3), (900, -555), (0, 100000), (-700000, 2))
 
 
 def listed(k, answer):
     """The patterns of an answer, each a list as place takes it."""
     return [answer[at:at + 2 * k] for at in range(1, len(answer), 2 * k)] if k else [[]] * answer[0]
-
-
-def all_windows():
-    return [(m, x) for m in MS for x in oracle.windows(m) + oracle.far_windows(m)]
-
-
-def windows_of_all_lengths(m):
-    """A window of every length whose two whole numbers are small."""
-    lengths = [(a, b) for a in range(-30, 31) for b in range(-30, 31) if oracle.is_length(m, (a, b))]
-    return [[-3, 2, a - 3, b + 2] for a, b in lengths]
 
 
 def points_of(m, x, count):
@@ -57,21 +46,21 @@ class WorkedOutByHand(unittest.TestCase):
 
 class FoundByTrying(unittest.TestCase):
     def test_patterns(self):
-        for m, x in all_windows():
+        for m, x in oracle.all_windows():
             for k in range(7):
                 rows = oracle.rows_of_window(m, x, k)
                 with self.subTest(m=m, k=k, x=x):
                     self.assertEqual(patterns(m, k, x), [len(rows)] + [n for row in rows for n in oracle.flat(row)])
 
     def test_many(self):
-        for m, x in all_windows():
+        for m, x in oracle.all_windows():
             for k in range(13):
                 with self.subTest(m=m, k=k, x=x):
                     self.assertEqual(many(m, k, x), [len(oracle.rows_of_window(m, x, k))])
 
     def test_windows_of_all_lengths(self):
         for m in MS:
-            for x in windows_of_all_lengths(m):
+            for x in oracle.windows_of_all_lengths(m):
                 for k in (2, 6):
                     rows = oracle.rows_of_window(m, x, k)
                     with self.subTest(m=m, k=k, x=x):
@@ -82,7 +71,7 @@ class FoundByTrying(unittest.TestCase):
 
 class AgreeWithTheOthers(unittest.TestCase):
     def test_the_places_fill_the_window_in_their_order(self):
-        for m, x in all_windows():
+        for m, x in oracle.all_windows():
             for k in range(7):
                 places = [place(m, x, l) for l in listed(k, patterns(m, k, x))]
                 with self.subTest(m=m, k=k, x=x):
@@ -93,7 +82,7 @@ class AgreeWithTheOthers(unittest.TestCase):
                         self.assertTrue(oracle.below(m, answer[1:3], answer[3:]))
 
     def test_no_pattern_twice_and_as_many_as_are_told(self):
-        for m, x in all_windows():
+        for m, x in oracle.all_windows():
             for k in range(7):
                 answer = patterns(m, k, x)
                 with self.subTest(m=m, k=k, x=x):
@@ -102,7 +91,7 @@ class AgreeWithTheOthers(unittest.TestCase):
 
     def test_the_steps_from_a_point_on_are_among_them(self):
         tried = 0
-        for m, x in all_windows():
+        for m, x in oracle.all_windows():
             for k in range(7):
                 found = listed(k, patterns(m, k, x))
                 for z in points_of(m, x, 60):
@@ -112,7 +101,7 @@ class AgreeWithTheOthers(unittest.TestCase):
         self.assertGreater(tried, 50000)
 
     def test_many_is_the_first_number_of_patterns(self):
-        for m, x in all_windows():
+        for m, x in oracle.all_windows():
             for k in range(7):
                 self.assertEqual(many(m, k, x), patterns(m, k, x)[:1], (m, k, x))
 
@@ -132,7 +121,7 @@ class AgreeWithTheOthers(unittest.TestCase):
 class WhatHolds(unittest.TestCase):
     def test_k_at_least_and_twice_k_and_1_at_most(self):
         met = set()
-        for m, x in all_windows():
+        for m, x in oracle.all_windows():
             for k in range(13):
                 count = many(m, k, x)[0]
                 met.add((k, count))
@@ -142,7 +131,7 @@ class WhatHolds(unittest.TestCase):
     def test_a_window_moved_has_the_same_patterns_in_the_same_order(self):
         for m in MS:
             for x in oracle.windows(m):
-                for a, b in MOVES:
+                for a, b in oracle.MOVES:
                     moved = [x[0] + a, x[1] + b, x[2] + a, x[3] + b]
                     for k in range(7):
                         self.assertEqual(patterns(m, k, moved), patterns(m, k, x), (m, k, x, moved))
@@ -161,7 +150,7 @@ class WhatHolds(unittest.TestCase):
 
 class Corners(unittest.TestCase):
     def test_no_steps_are_one_pattern(self):
-        for m, x in all_windows():
+        for m, x in oracle.all_windows():
             self.assertEqual(patterns(m, 0, x), [1], (m, x))
             self.assertEqual(many(m, 0, x), [1], (m, x))
 
@@ -172,14 +161,14 @@ class Corners(unittest.TestCase):
         self.assertEqual(many(1, 13, [0, 0, 1, 0]), [-28])
 
     def test_six_steps_are_listed_and_seven_are_not(self):
-        for m, x in all_windows():
+        for m, x in oracle.all_windows():
             self.assertEqual(patterns(m, 6, x)[:1], many(m, 6, x), (m, x))
             self.assertEqual(patterns(m, 7, x), [-28], (m, x))
             self.assertGreater(many(m, 7, x)[0], 0, (m, x))
 
     def test_a_window_of_length_1_has_one_pattern_more_than_steps(self):
         for m in MS:
-            for a, b in ((0, 0),) + MOVES:
+            for a, b in ((0, 0),) + oracle.MOVES:
                 for k in range(13):
                     self.assertEqual(many(m, k, [a, b, a + 1, b]), [k + 1], (m, k, a, b))
 

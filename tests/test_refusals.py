@@ -7,7 +7,7 @@ import itertools
 import unittest
 
 from tests import oracle
-from windowsteps.patterns import many, patterns, place, steps
+from windowsteps.patterns import many, patterns, place, returns, share, steps
 
 WRONG_M = [0, 5, 6, 4294967295]
 WRONG_X = [
@@ -48,6 +48,38 @@ def too_long_windows(m):
 
 def too_short_windows(m):
     return [[0, 0] + list(length) for length in (oracle.sub((1, 0), oracle.power(m, -6)), oracle.power(m, -9), (-m, 1))]
+
+
+def right_windows(m):
+    """Windows of length 1, just below w w, and between; the last of them far out."""
+    lengths = [(1, 0), (2, 0), oracle.sub((1, m), oracle.power(m, -6))]
+    begins = [(0, 0), (-5, 3), (40, -7)]
+    return [list(begin + oracle.add(begin, length)) for begin, length in zip(begins, lengths)] + [
+        [-1000000, 999999, -1000000, 1000000]]
+
+
+def known_steps(m, x):
+    return [row[0] for row in oracle.rows_of_window(m, x, 1)]
+
+
+def orders_that_no_point_has(m, x):
+    """Steps that there are, two to four in a row and twelve of them, in an order that no point has."""
+    found = []
+    for k in (2, 3, 4):
+        rows = [list(row) for row in itertools.product(known_steps(m, x), repeat=k)]
+        found += [oracle.flat(row) for row in rows if row not in oracle.rows_of_window(m, x, k)]
+    twelve = oracle.rows_of_window(m, x, 12)
+    swapped = [row[:11] + [step] for row in twelve for step in known_steps(m, x)]
+    return found + [oracle.flat(row) for row in swapped if row not in twelve][:3]
+
+
+def steps_that_there_are_not(m, x):
+    strange = [(0, 0), (-1, 0), (0, -1), (20, 0), (1000000, 1000000), (-1000000, 1000000), (1000000, -1000000)]
+    known = known_steps(m, x)
+    negative = [(-a, -b) for a, b in known]
+    together = [oracle.add(known[0], known[0])]
+    found = [step for step in strange + negative + together if step not in known]
+    return [oracle.flat(row) for step in found for row in ([step], [known[0], step], [step] + [known[-1]] * 11)]
 
 
 class PlaceAlone(unittest.TestCase):
@@ -149,6 +181,61 @@ class PatternsAndManyAlone(unittest.TestCase):
             self.assertEqual(patterns(m, 6, GOOD_X)[0], 7)
 
 
+class ShareAndReturnsAlone(unittest.TestCase):
+    CALLS = (share, returns)
+
+    def test_m(self):
+        for call, m in itertools.product(self.CALLS, WRONG_M):
+            for x in (GOOD_X, [0, 0, 2, 0], [-1, 0, 0, 0]):
+                for l in ([], GOOD_L, [0, 1, 1, 1]):
+                    self.assertEqual(call(m, x, l), [-22], (call, m, x, l))
+
+    def test_x(self):
+        for call, m in itertools.product(self.CALLS, (1, 2, 3, 4)):
+            for x in WRONG_X + too_long_windows(m) + too_short_windows(m):
+                for l in ([], GOOD_L, [0, 1, 1, 1]):
+                    self.assertEqual(call(m, x, l), [-22], (call, m, x, l))
+
+    def test_a_window_depends_on_m(self):
+        for call, first in ((share, 0), (returns, 3)):
+            self.assertEqual([call(m, [0, 0, 3, 0], [])[0] for m in (1, 2, 3, 4)], [-22, first, first, first])
+            self.assertEqual([call(m, [0, 0, 17, 0], [])[0] for m in (1, 2, 3, 4)], [-22, -22, -22, first])
+
+    def test_a_window_by_a_hair(self):
+        for call, m in itertools.product(self.CALLS, (1, 2, 3, 4)):
+            hair = oracle.power(m, -9)
+            for length, held in (((1, 0), True), (oracle.sub((1, 0), hair), False), ((1, m), False),
+                                 (oracle.sub((1, m), hair), True)):
+                self.assertEqual(call(m, [0, 0] + list(length), []) != [-22], held, (call, m, length))
+
+    def test_l(self):
+        for call, m, l in itertools.product(self.CALLS, (1, 2, 3, 4), WRONG_L):
+            for x in right_windows(m):
+                self.assertEqual(call(m, x, l), [-22], (call, m, x, l))
+
+    def test_l_of_more_than_twelve_steps(self):
+        for call, m in itertools.product(self.CALLS, (1, 2, 3, 4)):
+            for x in right_windows(m):
+                had = [oracle.flat(oracle.rows_of_window(m, x, 12)[0]) + list(step) for step in known_steps(m, x)]
+                twenty = [oracle.flat(oracle.rows_of_window(m, x, 10)[0]) * 2]
+                for l in LONG_L + had + twenty:
+                    self.assertEqual(call(m, x, l), [-28], (call, m, x, l))
+
+    def test_a_pattern_that_no_point_has(self):
+        for call, m in itertools.product(self.CALLS, (1, 2, 3, 4)):
+            for x in right_windows(m):
+                disordered = orders_that_no_point_has(m, x)
+                self.assertGreater(len(disordered), 3)
+                for l in disordered + steps_that_there_are_not(m, x):
+                    self.assertEqual(call(m, x, l), [-33], (call, m, x, l))
+
+    def test_a_pattern_that_would_be_had_at_a_single_end_alone(self):
+        # w, then 1, then 1 meet in the one number w less 1 at most, which is no stretch.
+        for call in self.CALLS:
+            self.assertEqual(call(1, [0, 0, 0, 1], [0, 1, 1, 0, 1, 0]), [-33])
+            self.assertEqual(call(1, [0, 0, 0, 1], [1, 1]), [-33])
+
+
 class SeveralAtOnce(unittest.TestCase):
     """Every choice of a right or a wrong thing in each place; the first refusal that is due is answered."""
 
@@ -160,6 +247,25 @@ class SeveralAtOnce(unittest.TestCase):
             due = first_due([r1, r2, r3])
             answer = place(m, x, l)
             self.assertEqual(answer if due else answer[0], [due] if due else 0, (m, x, l))
+
+    def test_share_and_returns(self):
+        for right_m in (1, 2, 3, 4):
+            ms = [(0, right_m)] + [(-22, m) for m in WRONG_M]
+            wrong_x = WRONG_X + too_long_windows(right_m) + too_short_windows(right_m)
+            for right_x in right_windows(right_m):
+                xs = [(0, right_x)] + [(-22, x) for x in wrong_x]
+                unknown = orders_that_no_point_has(right_m, right_x)[-4:]
+                unknown += steps_that_there_are_not(right_m, right_x)[:6]
+                ls = [(0, []), (0, list(known_steps(right_m, right_x)[0]))] + [(-22, l) for l in WRONG_L]
+                ls += [(-28, l) for l in LONG_L] + [(-33, l) for l in unknown]
+                for (r1, m), (r2, x), (r3, l) in itertools.product(ms, xs, ls):
+                    due = first_due([r1, r2, r3])
+                    for call, rights in ((share, (0,)), (returns, (2, 3))):
+                        answer = call(m, x, l)
+                        if due:
+                            self.assertEqual(answer, [due], (call, m, x, l))
+                        else:
+                            self.assertIn(answer[0], rights, (call, m, x, l))
 
     def test_steps(self):
         ms = [(0, 1)] + [(-22, m) for m in WRONG_M]
@@ -204,6 +310,13 @@ class WhatIsHandedIn(unittest.TestCase):
         (patterns, (2, 7, [0, 0, 1, 0])), (patterns, (2, 3, [0, 0, 1])), (patterns, (0, 3, [0, 0, 1, 0])),
         (many, (1, 12, [0, 0, 2, 0])), (many, (4, 12, [0, 0, 17, 0])), (many, (2, 0, [0, 0, 1, 0])),
         (many, (2, 13, [0, 0, 1, 0])), (many, (2, 3, [0, 0, 1])), (many, (0, 3, [0, 0, 1, 0])),
+        (share, (1, [0, 0, 2, 0], [1, 0, 0, 1])), (share, (3, [7, -3, 9, -3], [])), (share, (1, [0, 0, 1, 0], [1, 0])),
+        (share, (2, [0, 0, 1, 0], [1])), (share, (2, [0, 0, 1, 0], [1, 0] * 13)), (share, (2, [0, 0, 1], [0, 1])),
+        (share, (1, [-673135, 416020, 673135, -416020], [1, 0])), (share, (0, [0, 0, 1, 0], [0, 1])),
+        (returns, (1, [0, 0, 2, 0], [1, 0, 0, 1])), (returns, (3, [7, -3, 9, -3], [])),
+        (returns, (1, [0, 0, 1, 0], [1, 0])), (returns, (2, [0, 0, 1, 0], [1])),
+        (returns, (2, [0, 0, 1, 0], [1, 0] * 13)), (returns, (2, [0, 0, 1], [0, 1])),
+        (returns, (1, [-673135, 416020, 673135, -416020], [1, 0])), (returns, (0, [0, 0, 1, 0], [0, 1])),
     ]
 
     def test_lists_are_as_they_were(self):
@@ -248,6 +361,8 @@ class WhatIsHandedIn(unittest.TestCase):
         self.assertEqual(steps(m=1, k=2, x=[0, 0, 1, 0], z=[0, 0]), steps(1, 2, [0, 0, 1, 0], [0, 0]))
         self.assertEqual(patterns(m=1, k=2, x=[0, 0, 1, 0]), patterns(1, 2, [0, 0, 1, 0]))
         self.assertEqual(many(m=1, k=2, x=[0, 0, 1, 0]), many(1, 2, [0, 0, 1, 0]))
+        self.assertEqual(share(m=1, x=[0, 0, 1, 0], l=[0, 1]), share(1, [0, 0, 1, 0], [0, 1]))
+        self.assertEqual(returns(m=1, x=[0, 0, 1, 0], l=[0, 1]), returns(1, [0, 0, 1, 0], [0, 1]))
 
 
 if __name__ == "__main__":

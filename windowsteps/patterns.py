@@ -26,6 +26,34 @@ def partner(m, p):
     return (p[0] + m * p[1], -p[1])
 
 
+def times(m, p, q):
+    # w by w is 1 and m w.
+    both = p[1] * q[1]
+    return (p[0] * q[0] + both, p[0] * q[1] + p[1] * q[0] + m * both)
+
+
+def common_divisor(one, other):
+    """The largest whole number that divides both; not both are 0."""
+    larger = abs(one)
+    smaller = abs(other)
+    while smaller > 0:
+        rest = larger % smaller
+        larger = smaller
+        smaller = rest
+    return larger
+
+
+def divided(m, p, q):
+    """p divided by q: a, b and the divisor, which is above 0, with nothing in common."""
+    # q multiplied by its partner is a whole number, above 0 or below it.
+    upper = times(m, p, partner(m, q))
+    divisor = times(m, q, partner(m, q))[0]
+    common = common_divisor(common_divisor(upper[0], upper[1]), divisor)
+    if divisor < 0:
+        common = -common
+    return (upper[0] // common, upper[1] // common, divisor // common)
+
+
 def is_above_zero(m, p):
     # Twice a and b w is (2 a and b m) and b r, where r by r is m m and 4. No whole number is r, nor a
     # fraction, so the two parts outweigh one another by their squares, and are equal only if both are 0.
@@ -86,13 +114,27 @@ def is_window(m, x):
     return not is_below(m, length, (1, 0)) and is_below(m, length, (1, m))
 
 
+def filled_by(m, rising, falling):
+    """How long a span is that the places of these two steps fill."""
+    return partner(m, minus(rising, falling))
+
+
 def least_steps(m, length):
-    """The least step whose partner is above 0 and the least whose partner is below 0."""
-    # These two are right for length 1. While both partners together are shorter than the window, some
-    # point could take either step, so the way between their two ends is a smaller one that fits.
+    """For a span as long: the least step whose partner is above 0 and the least whose partner is below 0."""
+    # These two are right for length 1.
     rising = (1, 1)
     falling = (0, 1)
-    while is_below(m, partner(m, minus(rising, falling)), length):
+    # While they fill more than the span, the one that leads further aside may lead out of it from everywhere;
+    # both together lead less far aside. This may go once too often; then the loop below takes it back.
+    while is_below(m, length, filled_by(m, rising, falling)):
+        together = plus(rising, falling)
+        if is_above_zero(m, partner(m, together)):
+            rising = together
+        else:
+            falling = together
+    # While they fill less than the span, some point could take either step, so the way between their two
+    # ends is a smaller one that fits.
+    while is_below(m, filled_by(m, rising, falling), length):
         if is_below(m, falling, rising):
             rising = minus(rising, falling)
         else:
@@ -113,6 +155,15 @@ def step_places(m, window):
         (plus(rising, falling), (rising_end, falling_begin)),
         (falling, (falling_begin, window[1])),
     ]
+
+
+def steps_rising(m, length):
+    """The steps of a span as long, rising."""
+    pair = least_steps(m, length)
+    found = [pair[0], pair[1]] if is_below(m, pair[0], pair[1]) else [pair[1], pair[0]]
+    if is_below(m, length, filled_by(m, pair[0], pair[1])):
+        found.append(plus(pair[0], pair[1]))
+    return found
 
 
 def place_of_step(places, wanted):
@@ -169,17 +220,28 @@ def rows_of_steps(m, window, k):
     return [entry[0] for entry in found]
 
 
-def place(m, x, l):
-    """0, then where the place of pattern l begins and where it ends; or a refusal."""
+def place_asked_for(m, x, l):
+    """0 and the place of pattern l in window x; or a refusal and None."""
     if not is_window(m, x) or not are_numbers(l):
-        return [NOT_AS_TOLD]
+        return (NOT_AS_TOLD, None)
     pattern = numbers_of(l)
     if len(pattern) > MOST_STEPS:
-        return [TOO_MANY_STEPS]
-    found = place_of_pattern(m, span_of(x), pattern)
-    if found is None:
-        return [NO_POINT_HAS_IT]
-    return [0, found[0][0], found[0][1], found[1][0], found[1][1]]
+        return (TOO_MANY_STEPS, None)
+    span = place_of_pattern(m, span_of(x), pattern)
+    if span is None:
+        return (NO_POINT_HAS_IT, None)
+    return (0, span)
+
+
+def place(m, x, l):
+    """0, then where the place of pattern l begins and where it ends; or a refusal."""
+    asked = place_asked_for(m, x, l)
+    if asked[0] != 0:
+        return [asked[0]]
+    answer = [0]
+    for end in asked[1]:
+        answer.extend(end)
+    return answer
 
 
 def steps(m, k, x, z):
@@ -222,3 +284,26 @@ def many(m, k, x):
     if k > MOST_STEPS:
         return [TOO_MANY_STEPS]
     return [len(rows_of_steps(m, span_of(x), k))]
+
+
+def share(m, x, l):
+    """0, then the share of pattern l: a, b, and what they are divided by; or a refusal."""
+    asked = place_asked_for(m, x, l)
+    if asked[0] != 0:
+        return [asked[0]]
+    answer = [0]
+    answer.extend(divided(m, length_of(asked[1]), length_of(span_of(x))))
+    return answer
+
+
+def returns(m, x, l):
+    """At how many distances the next point with pattern l is, then these, rising; or a refusal."""
+    asked = place_asked_for(m, x, l)
+    if asked[0] != 0:
+        return [asked[0]]
+    # The points that have the pattern are the points of its place, so from one to the next it is a step there.
+    distances = steps_rising(m, length_of(asked[1]))
+    answer = [len(distances)]
+    for distance in distances:
+        answer.extend(distance)
+    return answer
