@@ -4,6 +4,7 @@ Numbers are compared by long decimal approximations here, and points are found b
 is drawn from the program that is tested.
 """
 
+import fractions
 import functools
 import itertools
 import math
@@ -163,6 +164,12 @@ def nearest_ways(m, length):
         most *= 2
 
 
+def next_point(m, span, z):
+    """The next point behind z, whose partner lies in the span, whose partner does so too."""
+    way = next(way for way in nearest_ways(m, length(span)) if is_point(m, add(z, way), span))
+    return add(z, way)
+
+
 def without(part, taken):
     """The stretches of part that are left when taken is taken from it."""
     left = [(part[0], min(part[1], taken[0])), (max(part[0], taken[1]), part[1])]
@@ -176,6 +183,12 @@ def flat(numbers):
 def pairs(values):
     """The numbers that these whole numbers tell."""
     return list(zip(values[::2], values[1::2]))
+
+
+def sum_of_shares(answers):
+    """What the answers of share make together, as fractions: of how many 1, and of how many w."""
+    return (sum(fractions.Fraction(a, divisor) for first, a, b, divisor in answers),
+            sum(fractions.Fraction(b, divisor) for first, a, b, divisor in answers))
 
 
 def length(span):
@@ -253,3 +266,18 @@ def all_windows():
 def most_windows():
     """Those too that are slow to try."""
     return all_windows() + [(m, x) for m in (1, 2, 3, 4) for x in tight_windows(m)]
+
+
+# For each m points whose own numbers and whose partners' are as large as may be, or nearly so.
+FAR_POINTS = {1: [(0, 1000000), (1000000, -1000000)], 2: [(-1000000, 1000000), (1000000, -1000000)],
+              3: [(1000000, -666666), (-1000000, 666666)], 4: [(1000000, -500000), (-1000000, 500000)]}
+
+
+def windows_about_far_points(m):
+    """Windows as far out as may be that have points which may be handed in."""
+    found = []
+    for z in FAR_POINTS[m]:
+        u = partner(m, z)
+        for size in ((1, 0), (0, 1), sub((1, m), power(m, -2))):
+            found += [list(begin + add(begin, size)) for begin in (u, sub(u, (1, 0)), sub(u, size))]
+    return [x for x in found if max(map(abs, x)) <= 1000000]

@@ -15,7 +15,8 @@ ALLOWED_NAMES = set("""len range enumerate zip min max sum abs sorted reversed i
 ALLOWED_METHODS = set("""append clear copy count endswith extend find get index insert items join keys pop remove
     replace reverse setdefault split startswith strip update values bit_length""".split())
 FORBIDDEN_WORDS = (r"\b(type|typing|typing_extensions|enum|Enum|IntEnum|StrEnum|Flag|IntFlag|Generic|Protocol|ABC"
-                   r"|ABCMeta|namedtuple|NamedTuple|TypedDict|TYPE_CHECKING|abstractmethod)\b|dataclass|overload|contextmanager")
+                   r"|ABCMeta|namedtuple|NamedTuple|TypedDict|TYPE_CHECKING|abstractmethod)\b"
+                   r"|dataclass|overload|contextmanager")
 FORBIDDEN_NODES = (
     ast.Import, ast.ImportFrom, ast.With, ast.Match, ast.Delete, ast.Global, ast.Nonlocal, ast.Assert, ast.Yield,
     ast.YieldFrom, ast.AsyncFunctionDef, ast.Await, ast.SetComp, ast.DictComp, ast.GeneratorExp, ast.NamedExpr,

@@ -2,12 +2,13 @@
 
 import contextlib
 import copy
+import inspect
 import io
 import itertools
 import unittest
 
 from tests import oracle
-from windowsteps.patterns import many, patterns, place, returns, share, steps
+from windowsteps.patterns import again, alike, many, patterns, place, returns, share, steps
 
 WRONG_M = [0, 5, 6, 4294967295]
 WRONG_X = [
@@ -51,11 +52,10 @@ def too_short_windows(m):
 
 
 def right_windows(m):
-    """Windows of length 1, just below w w, and between; the last of them far out."""
-    lengths = [(1, 0), (2, 0), oracle.sub((1, m), oracle.power(m, -6))]
-    begins = [(0, 0), (-5, 3), (40, -7)]
-    return [list(begin + oracle.add(begin, length)) for begin, length in zip(begins, lengths)] + [
-        [-1000000, 999999, -1000000, 1000000]]
+    """Windows of length 1, just below w w, and between; the last of them far out. Each begins at a point's partner."""
+    lengths = [(1, 0), (2, 0), oracle.sub((1, m), oracle.power(m, -6)), (1, 0)]
+    begins = [(0, 0), (-5, 3), (40, -7), (-1000000, min(1000000, 2000000 // m))]
+    return [list(begin + oracle.add(begin, length)) for begin, length in zip(begins, lengths)]
 
 
 def known_steps(m, x):
@@ -80,6 +80,24 @@ def steps_that_there_are_not(m, x):
     together = [oracle.add(known[0], known[0])]
     found = [step for step in strange + negative + together if step not in known]
     return [oracle.flat(row) for step in found for row in ([step], [known[0], step], [step] + [known[-1]] * 11)]
+
+
+def no_points(m, x):
+    """Numbers that are not points of the window, the first of them by a hair."""
+    hair = oracle.power(m, -5)
+    partners = [x[2:], oracle.sub(x[:2], hair), oracle.sub(x[:2], (1, 0)), oracle.add(x[2:], (17, 0))]
+    found = [list(oracle.partner(m, p)) for p in partners]
+    return [z for z in found + [[1000000, 1000000], [-1000000, -1000000]] if max(map(abs, z)) <= 1000000]
+
+
+def points_of_each_step(m, x):
+    """For each step a point that has it, as far as it may be handed in."""
+    points = oracle.row_of_points(m, x, oracle.first_point(m, x), 200)
+    found = {}
+    for z, step in zip(points, oracle.steps_between(points)):
+        if max(map(abs, z)) <= 1000000:
+            found.setdefault(step, z)
+    return found
 
 
 class PlaceAlone(unittest.TestCase):
@@ -236,6 +254,97 @@ class ShareAndReturnsAlone(unittest.TestCase):
             self.assertEqual(call(1, [0, 0, 0, 1], [1, 1]), [-33])
 
 
+class AgainAlone(unittest.TestCase):
+    def setUp(self):
+        self.right = [(m, x, list(oracle.first_point(m, x))) for m in (1, 2, 3, 4) for x in right_windows(m)]
+
+    def test_nothing_wrong(self):
+        for m, x, z in self.right:
+            for k in (0, 1, 12):
+                answer = again(m, x, z, steps(m, k, x, z)[1:])
+                self.assertEqual([len(answer), answer[0]], [3, 0], (m, x, z))
+
+    def test_m(self):
+        for m, (right, x, z) in itertools.product(WRONG_M, self.right):
+            self.assertEqual(again(m, x, z, []), [-22], (m, x, z))
+            self.assertEqual(again(m, x, z, steps(right, 3, x, z)[1:]), [-22], (m, x, z))
+
+    def test_x(self):
+        for m in (1, 2, 3, 4):
+            for x in WRONG_X + too_long_windows(m) + too_short_windows(m):
+                for l in ([], [1, 1]):
+                    self.assertEqual(again(m, x, [0, 0], l), [-22], (m, x, l))
+
+    def test_z(self):
+        for (m, x, right), z in itertools.product(self.right, WRONG_Z):
+            self.assertEqual(again(m, x, z, []), [-22], (m, x, z))
+            self.assertEqual(again(m, x, z, steps(m, 3, x, right)[1:]), [-22], (m, x, z))
+
+    def test_l(self):
+        for (m, x, z), l in itertools.product(self.right, WRONG_L):
+            self.assertEqual(again(m, x, z, l), [-22], (m, x, z, l))
+
+    def test_l_of_more_than_twelve_steps(self):
+        for m, x, z in self.right:
+            had = steps(m, 12, x, z)[1:]
+            for l in LONG_L + [had + list(step) for step in known_steps(m, x)] + [had[:20] * 2]:
+                self.assertEqual(again(m, x, z, l), [-28], (m, x, z, l))
+
+    def test_a_pattern_that_no_point_has(self):
+        for m, x, z in self.right:
+            for l in orders_that_no_point_has(m, x) + steps_that_there_are_not(m, x):
+                self.assertEqual(again(m, x, z, l), [-33], (m, x, z, l))
+
+    def test_z_that_is_no_point(self):
+        for m, x, right in self.right:
+            for z in no_points(m, x):
+                self.assertEqual(again(m, x, z, []), [-2], (m, x, z))
+                for k in (1, 12):
+                    self.assertEqual(again(m, x, z, steps(m, k, x, right)[1:]), [-2], (m, x, z, k))
+
+    def test_z_without_the_pattern(self):
+        tried = 0
+        for m, x, right in self.right:
+            for step, z in points_of_each_step(m, x).items():
+                for k in range(1, 13):
+                    for pattern in oracle.rows_of_window(m, x, k):
+                        if pattern[0] != step:
+                            tried += 1
+                            self.assertEqual(again(m, x, list(z), oracle.flat(pattern)), [-2], (m, x, z, pattern))
+        self.assertGreater(tried, 1000)
+
+
+class AlikeAlone(unittest.TestCase):
+    def setUp(self):
+        self.right = [(m, x, list(oracle.first_point(m, x))) for m in (1, 2, 3, 4) for x in right_windows(m)]
+
+    def test_m(self):
+        for m, (right, x, z), k in itertools.product(WRONG_M, self.right, (0, 1, 12)):
+            self.assertEqual(alike(m, k, x, z, z), [-22], (m, k, x, z))
+
+    def test_x(self):
+        for m, k in itertools.product((1, 2, 3, 4), (0, 1, 12)):
+            for x in WRONG_X + too_long_windows(m) + too_short_windows(m):
+                self.assertEqual(alike(m, k, x, [0, 0], [0, 0]), [-22], (m, k, x))
+
+    def test_z_and_y(self):
+        for (m, x, right), wrong, k in itertools.product(self.right, WRONG_Z, (0, 1, 12)):
+            for z, y in ((wrong, right), (right, wrong), (wrong, wrong)):
+                self.assertEqual(alike(m, k, x, z, y), [-22], (m, k, x, z, y))
+
+    def test_k(self):
+        for (m, x, z), k in itertools.product(self.right, LARGE_K):
+            self.assertEqual(alike(m, k, x, z, z), [-28], (m, k, x, z))
+        for (m, x, z), k in itertools.product(self.right, range(13)):
+            self.assertEqual(alike(m, k, x, z, z), [1], (m, k, x, z))
+
+    def test_z_or_y_that_is_no_point(self):
+        for (m, x, right), k in itertools.product(self.right, (0, 1, 12)):
+            for wrong in no_points(m, x):
+                for z, y in ((wrong, right), (right, wrong), (wrong, wrong)):
+                    self.assertEqual(alike(m, k, x, z, y), [-2], (m, k, x, z, y))
+
+
 class SeveralAtOnce(unittest.TestCase):
     """Every choice of a right or a wrong thing in each place; the first refusal that is due is answered."""
 
@@ -266,6 +375,38 @@ class SeveralAtOnce(unittest.TestCase):
                             self.assertEqual(answer, [due], (call, m, x, l))
                         else:
                             self.assertIn(answer[0], rights, (call, m, x, l))
+
+    def test_again(self):
+        for right_m in (1, 2, 3, 4):
+            ms = [(0, right_m)] + [(-22, m) for m in WRONG_M]
+            wrong_x = WRONG_X[::3] + too_long_windows(right_m)[:2] + too_short_windows(right_m)[:2]
+            for right_x in right_windows(right_m):
+                has = points_of_each_step(right_m, right_x)
+                step = min(has)
+                xs = [(0, right_x)] + [(-22, x) for x in wrong_x]
+                zs = [(0, list(has[step]))] + [(-2, list(z)) for other, z in has.items() if other != step]
+                zs += [(-2, z) for z in no_points(right_m, right_x)] + [(-22, z) for z in WRONG_Z]
+                unknown = orders_that_no_point_has(right_m, right_x)[-2:]
+                unknown += steps_that_there_are_not(right_m, right_x)[:3]
+                ls = [(0, list(step))] + [(-22, l) for l in WRONG_L[::2] + WRONG_L[-1:]]
+                ls += [(-28, l) for l in LONG_L] + [(-33, l) for l in unknown]
+                for (r1, m), (r2, x), (r3, z), (r4, l) in itertools.product(ms, xs, zs, ls):
+                    due = first_due([r1, r2, r3, r4])
+                    answer = again(m, x, z, l)
+                    self.assertEqual(answer if due else answer[0], [due] if due else 0, (m, x, z, l))
+
+    def test_alike(self):
+        for right_m in (1, 2, 3, 4):
+            ms = [(0, right_m)] + [(-22, m) for m in WRONG_M]
+            ks = [(0, 0), (0, 12), (-28, 13), (-28, 4294967295)]
+            wrong_x = WRONG_X[::4] + too_long_windows(right_m)[:1] + too_short_windows(right_m)[:1]
+            for right_x in right_windows(right_m):
+                xs = [(0, right_x)] + [(-22, x) for x in wrong_x]
+                zs = [(0, list(oracle.first_point(right_m, right_x)))] + [(-22, z) for z in WRONG_Z[::2] + WRONG_Z[-2:]]
+                zs += [(-2, z) for z in no_points(right_m, right_x)]
+                for (r1, m), (r2, k), (r3, x), (r4, z), (r5, y) in itertools.product(ms, ks, xs, zs, zs):
+                    due = first_due([r1, r2, r3, r4, r5])
+                    self.assertEqual(alike(m, k, x, z, y), [due] if due else [1], (m, k, x, z, y))
 
     def test_steps(self):
         ms = [(0, 1)] + [(-22, m) for m in WRONG_M]
@@ -304,8 +445,10 @@ class WhatIsHandedIn(unittest.TestCase):
     CALLS = [
         (place, (1, [0, 0, 2, 0], [1, 0, 0, 1])), (place, (3, [7, -3, 9, -3], [])), (place, (1, [0, 0, 1, 0], [1, 0])),
         (place, (2, [0, 0, 1, 0], [1])), (place, (2, [0, 0, 1, 0], [1, 0] * 13)),
-        (steps, (1, 12, [0, 0, 2, 0], [0, 0])), (steps, (4, 12, [0, 0, 17, 0], [0, 0])), (steps, (2, 0, [0, 0, 1, 0], [0, 0])),
-        (steps, (2, 13, [0, 0, 1, 0], [0, 0])), (steps, (2, 3, [0, 0, 1, 0], [1, 0])), (steps, (9, 3, [0, 0, 1, 0], [1, 0])),
+        (steps, (1, 12, [0, 0, 2, 0], [0, 0])), (steps, (4, 12, [0, 0, 17, 0], [0, 0])),
+        (steps, (2, 0, [0, 0, 1, 0], [0, 0])),
+        (steps, (2, 13, [0, 0, 1, 0], [0, 0])), (steps, (2, 3, [0, 0, 1, 0], [1, 0])),
+        (steps, (9, 3, [0, 0, 1, 0], [1, 0])),
         (patterns, (1, 6, [0, 0, 2, 0])), (patterns, (4, 6, [0, 0, 17, 0])), (patterns, (2, 0, [0, 0, 1, 0])),
         (patterns, (2, 7, [0, 0, 1, 0])), (patterns, (2, 3, [0, 0, 1])), (patterns, (0, 3, [0, 0, 1, 0])),
         (many, (1, 12, [0, 0, 2, 0])), (many, (4, 12, [0, 0, 17, 0])), (many, (2, 0, [0, 0, 1, 0])),
@@ -317,6 +460,15 @@ class WhatIsHandedIn(unittest.TestCase):
         (returns, (1, [0, 0, 1, 0], [1, 0])), (returns, (2, [0, 0, 1, 0], [1])),
         (returns, (2, [0, 0, 1, 0], [1, 0] * 13)), (returns, (2, [0, 0, 1], [0, 1])),
         (returns, (1, [-673135, 416020, 673135, -416020], [1, 0])), (returns, (0, [0, 0, 1, 0], [0, 1])),
+        (again, (1, [0, 0, 2, 0], [0, 0], [1, 0, 0, 1])), (again, (4, [0, 0, 17, 0], [0, 0], [])),
+        (again, (1, [0, 0, 0, 1], [0, 0], [0, 1])), (again, (1, [0, 0, 0, 1], [5, 0], [0, 1])),
+        (again, (1, [0, 0, 0, 1], [0, 0], [1, 0, 1, 0])), (again, (1, [0, 0, 0, 1], [0, 0], [0, 1] * 13)),
+        (again, (1, [0, 0, 0, 1], [0, 0], [0])), (again, (1, [0, 0, 0, 1], [0], [])),
+        (again, (5, [0, 0, 0, 1], [0, 0], [])),
+        (alike, (1, 12, [0, 0, 0, 1], [0, 0], [5, 8])), (alike, (1, 12, [0, 0, 0, 1], [0, 0], [2, 3])),
+        (alike, (3, 0, [0, 0, 1, 0], [0, 0], [1, 1])), (alike, (3, 13, [0, 0, 1, 0], [0, 0], [1, 1])),
+        (alike, (3, 1, [0, 0, 1, 0], [0, 0], [5, 0])), (alike, (3, 1, [0, 0, 1, 0], [5, 0], [0, 0])),
+        (alike, (3, 1, [0, 0, 1, 0], [], [0, 0])), (alike, (3, 1, [0, 0, 1], [0, 0], [0, 0])),
     ]
 
     def test_lists_are_as_they_were(self):
@@ -363,6 +515,11 @@ class WhatIsHandedIn(unittest.TestCase):
         self.assertEqual(many(m=1, k=2, x=[0, 0, 1, 0]), many(1, 2, [0, 0, 1, 0]))
         self.assertEqual(share(m=1, x=[0, 0, 1, 0], l=[0, 1]), share(1, [0, 0, 1, 0], [0, 1]))
         self.assertEqual(returns(m=1, x=[0, 0, 1, 0], l=[0, 1]), returns(1, [0, 0, 1, 0], [0, 1]))
+        self.assertEqual(again(m=1, x=[0, 0, 1, 0], z=[0, 0], l=[1, 1]), again(1, [0, 0, 1, 0], [0, 0], [1, 1]))
+        self.assertEqual(alike(m=1, k=2, x=[0, 0, 1, 0], z=[0, 0], y=[1, 1]), alike(1, 2, [0, 0, 1, 0], [0, 0], [1, 1]))
+        for call, names in ((place, "mxl"), (steps, "mkxz"), (patterns, "mkx"), (many, "mkx"), (share, "mxl"),
+                            (returns, "mxl"), (again, "mxzl"), (alike, "mkxzy")):
+            self.assertEqual("".join(inspect.signature(call).parameters), names)
 
 
 if __name__ == "__main__":

@@ -9,20 +9,6 @@ from windowsteps.patterns import place, returns
 MS = (1, 2, 3, 4)
 
 
-def distances(m, x, pattern):
-    return oracle.pairs(returns(m, x, oracle.flat(pattern))[1:])
-
-
-def starts(m, x, pattern):
-    """Points that have the pattern: where its place begins, and where another way could be the first to lead back."""
-    span = place(m, x, oracle.flat(pattern))[1:]
-    found = [tuple(span[:2])]
-    for way in distances(m, x, pattern):
-        found += [oracle.sub(end, oracle.partner(m, way)) for end in (span[:2], span[2:])]
-    points = [oracle.partner(m, p) for p in found if oracle.inside(m, p, span)]
-    return [z for z in dict.fromkeys(points) if walks.may_be_handed_in(z)]
-
-
 def is_longer(m, span, parts):
     """Whether a span is longer than 1 divided by parts."""
     return oracle.below(m, (1, 0), oracle.mul(m, oracle.length(span), (parts, 0)))
@@ -102,11 +88,11 @@ class Walked(unittest.TestCase):
             for k in range(13):
                 between = walks.ways_between(row, k)
                 for pattern in oracle.rows_of_window(m, x, k):
-                    told = set(distances(m, x, pattern))
+                    told = set(walks.distances(m, x, pattern))
                     met = between.get(tuple(pattern), set())
                     span = place(m, x, oracle.flat(pattern))[1:]
                     if is_longer(m, span, 3000) and met != told:
-                        met = met | {walks.way_to_the_next(m, x, z, pattern) for z in starts(m, x, pattern)}
+                        met = met | {walks.way_to_the_next(m, x, z, pattern) for z in walks.starts(m, x, pattern)}
                     with self.subTest(m=m, x=x, pattern=pattern):
                         self.assertLessEqual(met - {None}, told)
                         if max(map(abs, x)) < 200000 and is_longer(m, span, 3000):
@@ -122,9 +108,9 @@ class Walked(unittest.TestCase):
                 x = list(u + oracle.add(u, size))
                 for k in (0, 1, 4, 12):
                     for pattern in oracle.rows_of_window(m, x, k):
-                        met = {walks.way_to_the_next(m, x, start, pattern) for start in starts(m, x, pattern)}
+                        met = {walks.way_to_the_next(m, x, start, pattern) for start in walks.starts(m, x, pattern)}
                         with self.subTest(m=m, x=x, pattern=pattern):
-                            self.assertEqual(met, set(distances(m, x, pattern)))
+                            self.assertEqual(met, set(walks.distances(m, x, pattern)))
 
     def test_short_places(self):
         # A step whose place is shorter than 1 by 5,000 to 80,000 has to be walked for long.
@@ -135,8 +121,8 @@ class Walked(unittest.TestCase):
                           key=lambda row: oracle.value(m, oracle.length(place(m, x, oracle.flat(row))[1:])))
             with self.subTest(m=m, x=x):
                 self.assertFalse(is_longer(m, place(m, x, oracle.flat(pattern))[1:], 5000))
-                met = {walks.way_to_the_next(m, x, z, pattern) for z in starts(m, x, pattern)}
-                self.assertEqual(met, set(distances(m, x, pattern)))
+                met = {walks.way_to_the_next(m, x, z, pattern) for z in walks.starts(m, x, pattern)}
+                self.assertEqual(met, set(walks.distances(m, x, pattern)))
 
 
 class Corners(unittest.TestCase):
@@ -178,8 +164,8 @@ class Corners(unittest.TestCase):
                 self.assertEqual(returns(m, x, []), [2, 0, 1, 1, 1])
                 for k in range(13):
                     for pattern in oracle.rows_of_window(m, x, k):
-                        met = {walks.way_to_the_next(m, x, z, pattern) for z in starts(m, x, pattern)}
-                        self.assertLessEqual(met, set(distances(m, x, pattern)), (m, x, pattern))
+                        met = {walks.way_to_the_next(m, x, z, pattern) for z in walks.starts(m, x, pattern)}
+                        self.assertLessEqual(met, set(walks.distances(m, x, pattern)), (m, x, pattern))
 
     def test_very_short_places(self):
         # This place is as long as 1, divided by w 30 times. A window of length 1 has the steps w and w w, so here it's

@@ -1,6 +1,5 @@
 """share: a pattern's place by the window (the row of share; points 1 and 2)."""
 
-import fractions
 import itertools
 import math
 import unittest
@@ -9,12 +8,6 @@ from tests import oracle, walks
 from windowsteps.patterns import patterns, place, share
 
 MS = (1, 2, 3, 4)
-
-
-def together(answers):
-    """The sum of shares, as fractions: of how many 1, and of how many w."""
-    return (sum(fractions.Fraction(a, divisor) for first, a, b, divisor in answers),
-            sum(fractions.Fraction(b, divisor) for first, a, b, divisor in answers))
 
 
 class WorkedOutByHand(unittest.TestCase):
@@ -88,13 +81,13 @@ class Together(unittest.TestCase):
             for k in range(1, 7):
                 told = oracle.pairs(patterns(m, k, x)[1:])
                 answers = [share(m, x, oracle.flat(told[at:at + k])) for at in range(0, len(told), k)]
-                self.assertEqual(together(answers), (1, 0), (m, k, x))
+                self.assertEqual(oracle.sum_of_shares(answers), (1, 0), (m, k, x))
 
     def test_the_shares_of_all_patterns_of_more_steps_make_1(self):
         for m, x in oracle.most_windows():
             for k in range(7, 13):
                 answers = [share(m, x, oracle.flat(row)) for row in oracle.rows_of_window(m, x, k)]
-                self.assertEqual(together(answers), (1, 0), (m, k, x))
+                self.assertEqual(oracle.sum_of_shares(answers), (1, 0), (m, k, x))
 
     def test_a_pattern_comes_as_often_as_its_share_tells(self):
         # How many of so many points have it is never far from what the share tells, however many they are.

@@ -1,5 +1,6 @@
 """steps: which steps lead on from a point (the row of steps; points 1 and 2)."""
 
+import itertools
 import unittest
 
 from tests import oracle
@@ -59,24 +60,15 @@ class OrdinarySteps(unittest.TestCase):
 
 
 class LargeNumbers(unittest.TestCase):
-    # For each m a point whose own numbers and whose partner's are as large as may be, and a window there.
-    CORNERS = [(1, (0, 1000000)), (1, (1000000, -1000000)), (2, (-1000000, 1000000)), (2, (1000000, -1000000)),
-               (3, (1000000, -666666)), (3, (-1000000, 666666)), (4, (1000000, -500000)), (4, (-1000000, 500000))]
-
     def test_far_out(self):
-        for m, z in self.CORNERS:
-            u = oracle.partner(m, z)
-            for length in ((1, 0), (0, 1), oracle.sub((1, m), oracle.power(m, -2))):
-                for begin in (u, oracle.sub(u, (1, 0)), oracle.sub(u, length)):
-                    x = list(begin + oracle.add(begin, length))
-                    if max(map(abs, x)) > 1000000:
+        for m in (1, 2, 3, 4):
+            for x, z in itertools.product(oracle.windows_about_far_points(m), oracle.FAR_POINTS[m]):
+                with self.subTest(m=m, x=x, z=z):
+                    if not oracle.is_point(m, z, x):
+                        self.assertEqual(steps(m, 12, x, list(z)), [-2])
                         continue
-                    with self.subTest(m=m, x=x, z=z):
-                        if not oracle.is_point(m, z, x):
-                            self.assertEqual(steps(m, 12, x, list(z)), [-2])
-                            continue
-                        wanted = oracle.steps_between(oracle.row_of_points(m, x, z, 13))
-                        self.assertEqual(steps(m, 12, x, list(z)), [12] + oracle.flat(wanted))
+                    wanted = oracle.steps_between(oracle.row_of_points(m, x, z, 13))
+                    self.assertEqual(steps(m, 12, x, list(z)), [12] + oracle.flat(wanted))
 
     def test_every_number_at_its_bound(self):
         x = [1000000, -1000000, 1000000, -999999]

@@ -86,6 +86,10 @@ def moved_back(span, way):
     return (minus(span[0], way), minus(span[1], way))
 
 
+def number_of(z):
+    return (z[0], z[1])
+
+
 def span_of(x):
     return ((x[0], x[1]), (x[2], x[3]))
 
@@ -142,18 +146,18 @@ def least_steps(m, length):
     return (rising, falling)
 
 
-def step_places(m, window):
-    """Each step with its place, from the window's beginning on."""
-    pair = least_steps(m, length_of(window))
+def step_places(m, span):
+    """Each step of the points of a span with its place, from the span's beginning on."""
+    pair = least_steps(m, length_of(span))
     rising = pair[0]
     falling = pair[1]
-    rising_end = minus(window[1], partner(m, rising))
-    falling_begin = minus(window[0], partner(m, falling))
-    # Where neither fits the two together do; if they fill the window, the middle place is empty.
+    rising_end = minus(span[1], partner(m, rising))
+    falling_begin = minus(span[0], partner(m, falling))
+    # Where neither fits the two together do; if they fill the span, the middle place is empty.
     return [
-        (rising, (window[0], rising_end)),
+        (rising, (span[0], rising_end)),
         (plus(rising, falling), (rising_end, falling_begin)),
-        (falling, (falling_begin, window[1])),
+        (falling, (falling_begin, span[1])),
     ]
 
 
@@ -174,11 +178,23 @@ def place_of_step(places, wanted):
 
 
 def step_from(m, places, at):
-    """The step of the point whose partner is at, which lies in the window."""
+    """The step of the point whose partner is at, which lies in one of the places."""
     for step, span in places:
         if lies_in(m, at, span):
             return step
     return None
+
+
+def row_from(m, window, at, k):
+    """The k steps from the point on whose partner is at."""
+    places = step_places(m, window)
+    row = []
+    here = at
+    for count in range(k):
+        step = step_from(m, places, here)
+        row.append(step)
+        here = plus(here, partner(m, step))
+    return row
 
 
 def place_of_pattern(m, window, pattern):
@@ -233,15 +249,19 @@ def place_asked_for(m, x, l):
     return (0, span)
 
 
+def answer_of(first, numbers):
+    answer = [first]
+    for number in numbers:
+        answer.extend(number)
+    return answer
+
+
 def place(m, x, l):
     """0, then where the place of pattern l begins and where it ends; or a refusal."""
     asked = place_asked_for(m, x, l)
     if asked[0] != 0:
         return [asked[0]]
-    answer = [0]
-    for end in asked[1]:
-        answer.extend(end)
-    return answer
+    return answer_of(0, asked[1])
 
 
 def steps(m, k, x, z):
@@ -251,16 +271,10 @@ def steps(m, k, x, z):
     if k > MOST_STEPS:
         return [TOO_MANY_STEPS]
     window = span_of(x)
-    at = partner(m, (z[0], z[1]))
+    at = partner(m, number_of(z))
     if not lies_in(m, at, window):
         return [NOT_A_POINT]
-    places = step_places(m, window)
-    answer = [k]
-    for count in range(k):
-        step = step_from(m, places, at)
-        answer.extend(step)
-        at = plus(at, partner(m, step))
-    return answer
+    return answer_of(k, row_from(m, window, at, k))
 
 
 def patterns(m, k, x):
@@ -270,11 +284,10 @@ def patterns(m, k, x):
     if k > MOST_STEPS_LISTED:
         return [TOO_MANY_STEPS]
     rows = rows_of_steps(m, span_of(x), k)
-    answer = [len(rows)]
+    one_behind_another = []
     for row in rows:
-        for step in row:
-            answer.extend(step)
-    return answer
+        one_behind_another.extend(row)
+    return answer_of(len(rows), one_behind_another)
 
 
 def many(m, k, x):
@@ -303,7 +316,35 @@ def returns(m, x, l):
         return [asked[0]]
     # The points that have the pattern are the points of its place, so from one to the next it is a step there.
     distances = steps_rising(m, length_of(asked[1]))
-    answer = [len(distances)]
-    for distance in distances:
-        answer.extend(distance)
-    return answer
+    return answer_of(len(distances), distances)
+
+
+def again(m, x, z, l):
+    """0, then the next point behind z that has pattern l, as z has it; or a refusal."""
+    if not is_number(z):
+        return [NOT_AS_TOLD]
+    asked = place_asked_for(m, x, l)
+    if asked[0] != 0:
+        return [asked[0]]
+    point = number_of(z)
+    at = partner(m, point)
+    # A place is a part of the window: so this refuses what is no point, too.
+    if not lies_in(m, at, asked[1]):
+        return [NOT_A_POINT]
+    # As in returns, it is a step in the place.
+    way = step_from(m, step_places(m, asked[1]), at)
+    return answer_of(0, [plus(point, way)])
+
+
+def alike(m, k, x, z, y):
+    """1 if the k steps from point z on are those from point y on, else 0; or a refusal."""
+    if not is_window(m, x) or not is_number(z) or not is_number(y):
+        return [NOT_AS_TOLD]
+    if k > MOST_STEPS:
+        return [TOO_MANY_STEPS]
+    window = span_of(x)
+    at = partner(m, number_of(z))
+    other = partner(m, number_of(y))
+    if not lies_in(m, at, window) or not lies_in(m, other, window):
+        return [NOT_A_POINT]
+    return [1 if row_from(m, window, at, k) == row_from(m, window, other, k) else 0]
