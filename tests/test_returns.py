@@ -113,7 +113,7 @@ class Walked(unittest.TestCase):
                             self.assertEqual(met, set(walks.distances(m, x, pattern)))
 
     def test_short_places(self):
-        # A step whose place is shorter than 1 by 5,000 to 80,000 has to be walked for long.
+        # Places shorter than 1, divided by 5,000: from one point to the next it's a long walk.
         for m, n, times in ((1, 20, 1), (1, 20, 2), (2, 12, 1), (2, 12, 2), (3, 8, 1), (4, 7, 2)):
             size = oracle.add((1, 0), oracle.mul(m, oracle.power(m, -n), (times, 0)))
             x = [0, 0] + list(size)
